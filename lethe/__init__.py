@@ -1,0 +1,1 @@
+"""Lethe: a store in many places that can forget."""

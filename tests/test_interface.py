@@ -1,0 +1,73 @@
+"""The interface: each name, its file and its arguments."""
+
+import importlib
+import inspect
+import unittest
+
+FUNCTIONS = {
+    "packing": ["pack(parts)", "unpack(text)", "digits(number, width)", "number_of(text)"],
+    "coins": ["coin(seed, tag, text)"],
+    "layouts": ["layout(cell_count, items)"],
+    "tables": ["load_table(seed, image)"],
+    "nodes": ["above(seed, key, other)", "tree_size(tree)", "tree_entries(tree)", "split_tree(tree, key)",
+              "join_trees(seed, lower, upper)", "put_entry(seed, tree, key, value)", "drop_entry(seed, tree, key)",
+              "find_value(tree, key)", "tree_image(tree)", "tree_from_image(seed, image)", "is_shaped(seed, tree)"],
+    "order": ["load_order(seed, image)"],
+    "joins": ["union_tree(seed, first, second)", "minus_tree(seed, first, second)", "same_entries(first, second)",
+              "changes(old, new)", "make_changes(order, rows)"],
+    "pieces": ["check_file(name, data)", "piece_blocks(name, data)", "rest_blocks(seed, cells, files)",
+               "read_files(seed, cells, blocks)"],
+    "repair": ["repair(cells, medium)", "mount(seed, cells, medium)"],
+    "words": ["is_name(text)", "words(text)"],
+    "index": ["load_index(seed, image)"],
+}
+
+CLASSES = {
+    "tables": ("Table(seed)", ["put(key, value)", "drop(key)", "value_of(key)", "has(key)", "size()", "pairs()",
+                               "cells()", "image()", "looks(key)"]),
+    "order": ("Order(seed)", ["put(key, value)", "drop(key)", "has(key)", "value_of(key)", "size()", "entries()",
+                              "rank(text)", "entry_at(i)", "span(low, high)", "image()", "tree()", "cut(key)",
+                              "take_all(other)"]),
+    "blocks": ("Medium(block_count)", ["size()", "writes()", "is_down()", "read(index)", "write(index, block)",
+                                       "supply(writes, torn)", "blocks()"]),
+    "disk": ("Disk(seed, cells)", ["medium()", "files()", "data_of(name)", "commit(changes)"]),
+    "index": ("Index(seed)", ["put(key, text)", "drop(key)", "names()", "places(word, key)", "having(word)",
+                              "beginning(start)", "image()"]),
+}
+
+
+def split_entry(entry):
+    name, _, rest = entry.partition("(")
+    return name, [argument for argument in rest[:-1].split(", ") if argument]
+
+
+class TestInterface(unittest.TestCase):
+    def check_arguments(self, call, arguments):
+        parameters = list(inspect.signature(call).parameters.values())
+        self.assertEqual([parameter.name for parameter in parameters], arguments)
+        self.assertTrue(all(parameter.default is inspect.Parameter.empty for parameter in parameters))
+
+    def test_functions(self):
+        for file, entries in FUNCTIONS.items():
+            module = importlib.import_module("lethe." + file)
+            for entry in entries:
+                name, arguments = split_entry(entry)
+                function = getattr(module, name)
+                self.assertTrue(inspect.isfunction(function))
+                self.assertEqual(function.__module__, "lethe." + file)
+                self.check_arguments(function, arguments)
+
+    def test_classes(self):
+        for file, (entry, methods) in CLASSES.items():
+            module = importlib.import_module("lethe." + file)
+            name, arguments = split_entry(entry)
+            found = getattr(module, name)
+            self.assertEqual((found.__module__, found.__bases__), ("lethe." + file, (object,)))
+            self.check_arguments(found, arguments)
+            for method_entry in methods:
+                method, method_arguments = split_entry(method_entry)
+                self.check_arguments(vars(found)[method], ["self"] + method_arguments)
+
+
+if __name__ == "__main__":
+    unittest.main()
