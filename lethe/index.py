@@ -73,22 +73,22 @@ class Index:
 
 def load_index(seed, image):
     """Return the index of the seed whose image the text is."""
-    texts = shortest_texts(load_order(seed, image))
-    index = Index(seed)
-    for name in texts:
-        put_loaded(index, name, texts[name])
+    index = index_of(seed, shortest_texts(load_order(seed, image)))
     # Only the image itself tells that each word and each number is right.
     if index.image() != image:
         raise BadForm("the text is not the image of an index of this seed")
     return index
 
 
-def put_loaded(index, name, text):
-    """Put a text that was read from an image."""
+def index_of(seed, texts):
+    """Return the index of texts that were read from an image."""
+    index = Index(seed)
     try:
-        index.put(name, text)
+        for name in texts:
+            index.put(name, texts[name])
     except (NotAllowed, Full):
-        raise BadForm("the image has a name or words that are not allowed") from None
+        raise BadForm("the image has a name or a text that is not allowed") from None
+    return index
 
 
 def shortest_texts(order):

@@ -19,7 +19,8 @@ class Case(unittest.TestCase):
         """Check that a call raises an error of this very class."""
         with self.assertRaises(errors.LetheError) as caught:
             call(*args)
-        self.assertIs(type(caught.exception), error, (call, args))
+        if type(caught.exception) is not error:
+            self.fail(f"{type(caught.exception).__name__} for {repr((call, args))[:300]}")
 
 
 def plain_coin(seed, tag, text):

@@ -61,6 +61,13 @@ class TestUnpackErrors(Case):
         self.fails(BadForm, unpack, "000000001:a")
         self.fails(BadForm, unpack, "1" * 5000 + ":a")
 
+    def test_a_length_of_nine_digits_is_allowed(self):
+        part = "x" * 100000000
+        self.assertTrue(pack([part, "y"]) == "100000000:" + part + "1:y")
+        self.assertTrue(unpack("100000000:" + part + "1:y") == [part, "y"])
+        self.fails(BadForm, unpack, "0100000000:" + part)
+        self.fails(BadForm, unpack, "100000001:" + part)
+
     def test_near_texts(self):
         for parts in [["ab", "", "c:d"], ["12:", "x" * 11], ["0:"]]:
             for text in near_texts(pack(parts), SIGNS):

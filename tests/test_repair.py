@@ -78,6 +78,9 @@ class TestRepair(Case):
     def test_cells_out_of_range(self):
         self.fails(NotAllowed, mount, SEED, 0, Medium(1))
         self.fails(NotAllowed, mount, SEED, 401, Medium(801))
+        medium = medium_with([MARK])
+        self.fails(NotAllowed, mount, SEED, 0, medium)
+        self.assertEqual(medium.blocks(), [MARK])
         self.assertEqual(mount(SEED, 400, Medium(801)).files(), {})
 
     def test_wrong_sizes_go_before_down(self):
