@@ -9,7 +9,7 @@ FOLDER = pathlib.Path(__file__).parent.parent / "lethe"
 FILES = sorted(FOLDER.glob("*.py"))
 
 NODES = """Module Import ImportFrom alias FunctionDef ClassDef arguments arg Return Assign AugAssign For While If
-Try ExceptHandler Raise Expr Pass Break Continue Delete BoolOp And Or BinOp Add Sub Mult FloorDiv Mod BitAnd RShift
+Try ExceptHandler Raise Expr Pass Break Continue Delete BoolOp And Or BinOp Add Sub Mult FloorDiv Mod Pow BitAnd RShift
 UnaryOp USub Not IfExp Dict ListComp SetComp DictComp comprehension Compare Eq NotEq Lt LtE Gt GtE Is IsNot In NotIn
 Call FormattedValue JoinedStr Constant Attribute Subscript Slice Name List Tuple Set Load Store Del""".split()
 
@@ -39,6 +39,24 @@ def bound_names(function):
                     if isinstance(node, ast.Name) and isinstance(node.ctx, ast.Store)}
 
 
+def tables_of(tree):
+    """Return the names of the dicts and lists at module level."""
+    return [node.targets[0].id for node in tree.body if isinstance(node, ast.Assign)
+            and isinstance(node.value, (ast.Dict, ast.List))]
+
+
+def table_entries(tree, function):
+    """Return the local names that are given an entry of a table at module level."""
+    return {node.targets[0].id for node in ast.walk(function) if isinstance(node, ast.Assign)
+            and isinstance(node.value, ast.Subscript) and isinstance(node.value.value, ast.Name)
+            and node.value.value.id in tables_of(tree) and isinstance(node.targets[0], ast.Name)}
+
+
+def is_literal_range(node):
+    return (isinstance(node, ast.Call) and getattr(node.func, "id", "") == "range"
+            and all(isinstance(argument, ast.Constant) for argument in node.args))
+
+
 class TestFiles(unittest.TestCase):
     def test_the_folder_has_nothing_else(self):
         found = sorted(path for path in FOLDER.iterdir() if path.name != "__pycache__")
@@ -65,6 +83,15 @@ class TestFiles(unittest.TestCase):
                     self.assertEqual(node.args.kwonlyargs + node.args.defaults, [])
                 if isinstance(node, ast.Call):
                     self.assertEqual(node.keywords, [], (path, node.lineno))
+
+    def test_exponents(self):
+        for path, tree in trees():
+            counted = {node.target.id for node in ast.walk(tree) if isinstance(node, ast.comprehension)
+                       and isinstance(node.target, ast.Name) and is_literal_range(node.iter)}
+            for node in ast.walk(tree):
+                if isinstance(node, ast.BinOp) and isinstance(node.op, ast.Pow):
+                    known = isinstance(node.right, ast.Constant) or node.right.id in counted
+                    self.assertTrue(known, (path, node.lineno))
 
     def test_no_percent_sign_in_a_string(self):
         for path, tree in trees():
@@ -124,11 +151,38 @@ class TestNames(unittest.TestCase):
         own = {function.name for _, tree in trees() for function in functions_of(tree)}
         for path, tree in trees():
             known = set(self.defined(tree)) | {name for _, name in self.imported(tree)} | set(BUILTINS)
+            for function in functions_of(tree):
+                known |= table_entries(tree, function)
             for node in ast.walk(tree):
                 if isinstance(node, ast.Call) and isinstance(node.func, ast.Attribute):
                     self.assertTrue(node.func.attr in METHODS or node.func.attr in own, (path, node.lineno))
                 elif isinstance(node, ast.Call):
                     self.assertIn(node.func.id, known, (path, node.lineno))
+
+    def test_tables_at_module_level(self):
+        for path, tree in trees():
+            for node in tree.body:
+                if isinstance(node, ast.Assign) and isinstance(node.value, (ast.Dict, ast.List)):
+                    inside = list(ast.walk(node.value))[1:]
+                    self.assertFalse([part for part in inside if isinstance(part, (ast.Dict, ast.List))], path)
+            tables = tables_of(tree)
+            looked_at = set()
+            for node in ast.walk(tree):
+                if isinstance(node, ast.Subscript):
+                    looked_at.add(node.value)
+                elif isinstance(node, ast.Compare):
+                    looked_at |= set(node.comparators)
+            for node in ast.walk(tree):
+                if isinstance(node, ast.Name) and isinstance(node.ctx, ast.Load) and node.id in tables:
+                    self.assertIn(node, looked_at, (path, node.lineno))
+
+    def test_attributes_that_are_read_are_assigned(self):
+        parts = [node for _, tree in trees() for node in ast.walk(tree)]
+        stored = {node.attr for node in parts if isinstance(node, ast.Attribute) and isinstance(node.ctx, ast.Store)}
+        called = {node.func for node in parts if isinstance(node, ast.Call)}
+        for node in parts:
+            if isinstance(node, ast.Attribute) and node not in called:
+                self.assertIn(node.attr, stored)
 
     def test_methods_and_attributes(self):
         taken = {name for kind in (str, int, list, dict, set, bytes) for name in dir(kind)}
