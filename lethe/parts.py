@@ -1,4 +1,4 @@
-"""The parts that all lines of a hall work on (point 6.1)."""
+"""The parts of a hall (point 6.1): the fields that erase and lasting_files read, set in one place."""
 
 from lethe.edges import Edges
 from lethe.log import Log
