@@ -81,6 +81,13 @@ def changed_files(files, changes):
     return result
 
 
+def changes_between(old, new):
+    """Return the changes after which a disk with the old files has the new ones alone; none if they are the same."""
+    changes = {name: None for name in old if name not in new}
+    changes.update({name: new[name] for name in new if name not in old or old[name] != new[name]})
+    return changes
+
+
 def commit_writes(cells, rows):
     """Return the writes of a commit, in order; the rows are the changed cells and their new blocks."""
     entries = [(1 + cells + cell, FREED if block == BLANK else block) for cell, block in rows]

@@ -9,7 +9,7 @@ from lethe.erase import erase
 from lethe.errors import NotAllowed
 from lethe.lasting import lasting_files
 from lethe.log import Log
-from lethe.parts import Parts
+from lethe.hall import Hall
 from lethe.pins import Pins
 from lethe.sessions import Transaction
 from lethe.snaps import Snaps
@@ -100,7 +100,7 @@ class HallCase(Case):
 
 class TestErase(HallCase):
     def test_each_key_of_a_hall_with_all_parts(self):
-        for make in [Parts, other_hall]:
+        for make in [Hall, other_hall]:
             for key, answered in [("a", "erased"), ("b", "erased"), ("b1", "held"), ("c", "erased"), ("d", "erased"),
                                   ("none", "erased"), ("me", "erased"), ("x", "erased"), ("fox", "erased"),
                                   ("two", "erased")]:
@@ -110,7 +110,7 @@ class TestErase(HallCase):
                 self.assertEqual(self.erase(key), answered)
 
     def test_by_hand(self):
-        self.begin(Parts(5), 5)
+        self.begin(Hall(5), 5)
         self.fill()
         self.erase("a")
         hall = self.hall
@@ -127,7 +127,7 @@ class TestErase(HallCase):
         self.assertEqual(hall.transactions["t"].run("span 0 zz"), "b1 c")
 
     def test_a_hall_without_parts(self):
-        for make in [Parts, other_hall]:
+        for make in [Hall, other_hall]:
             self.begin(make(5), 5)
             for key in ["a", "none", "0", "abcd"]:
                 self.assertEqual(self.erase(key), "erased")
@@ -137,7 +137,7 @@ class TestErase(HallCase):
         for first, second in [("a", "b"), ("b", "c"), ("c", "a"), ("a", "none")]:
             looks = []
             for keys in [[first, second], [second, first]]:
-                self.begin(Parts(5), 5)
+                self.begin(Hall(5), 5)
                 self.fill()
                 for key in keys:
                     self.assertEqual(self.erase(key), "erased")
@@ -145,7 +145,7 @@ class TestErase(HallCase):
             self.assertEqual(looks[0], looks[1])
 
     def test_kept_answers_change(self):
-        self.begin(Parts(5), 5)
+        self.begin(Hall(5), 5)
         self.fill()
         self.assertIn('1:q9:ask "fox"3:a c', lasting_files(self.hall)["pins"])
         self.erase("a")
@@ -153,7 +153,7 @@ class TestErase(HallCase):
 
     def test_not_allowed(self):
         for fill in [True, False]:
-            self.begin(Parts(5), 5)
+            self.begin(Hall(5), 5)
             if fill:
                 self.fill()
             for key in NO_NAMES:
@@ -163,7 +163,7 @@ class TestErase(HallCase):
 
 class TestHeld(HallCase):
     def test_in_the_store(self):
-        self.begin(Parts(5), 5)
+        self.begin(Hall(5), 5)
         self.fill()
         self.change("hold a you")
         self.assertEqual(self.erase("a"), "held")
@@ -174,7 +174,7 @@ class TestHeld(HallCase):
 
     def test_in_the_own_store_of_a_transaction(self):
         for session in ["a", "t", "z"]:
-            self.begin(Parts(5), 5)
+            self.begin(Hall(5), 5)
             self.fill()
             self.open(session, ["hold c you"])
             self.assertEqual(self.erase("c"), "held")
@@ -184,7 +184,7 @@ class TestHeld(HallCase):
 
     def test_in_a_snapshot(self):
         for name in ["a", "x"]:
-            self.begin(Parts(5), 5)
+            self.begin(Hall(5), 5)
             self.fill()
             self.hall.snaps.remove_one(name)
             del self.plain.snaps[name]
@@ -197,7 +197,7 @@ class TestHeld(HallCase):
             self.assertEqual(self.erase("c"), "erased")
 
     def test_in_a_base_alone(self):
-        self.begin(Parts(5), 5)
+        self.begin(Hall(5), 5)
         self.fill()
         self.change("hold c you")
         self.open("z", ["free c you"])
@@ -207,14 +207,14 @@ class TestHeld(HallCase):
         self.assertNotIn("1:c", self.hall.transactions["z"].images()[0])
 
     def test_in_the_store_alone(self):
-        self.begin(Parts(5), 5)
+        self.begin(Hall(5), 5)
         self.change('put a 1 2 3 "x"')
         self.change("hold a me")
         self.assertEqual(self.erase("a"), "held")
         self.assertEqual(self.erase("me"), "erased")
 
     def test_in_a_transaction_alone(self):
-        self.begin(Parts(5), 5)
+        self.begin(Hall(5), 5)
         self.open("s", ['put a 1 2 3 "x"', "hold a me", "drop a"])
         self.assertEqual(self.erase("a"), "held")
         self.assertEqual(self.erase("s"), "erased")
@@ -248,7 +248,7 @@ class TestRandomHalls(HallCase):
         self.seen = {"held": 0, "erased": 0}
         for seed in [0, 5, 999999]:
             for _ in range(20):
-                self.begin(Parts(seed), seed)
+                self.begin(Hall(seed), seed)
                 for _ in range(60):
                     self.play(choice)
                 self.check_is()

@@ -35,6 +35,16 @@ FUNCTIONS = {
     "pins": ["load_pins(text, store)"],
     "erase": ["erase(hall, key)"],
     "lasting": ["lasting_files(hall)"],
+    "revive": ["hall_of(seed, files)"],
+    "cut": ["cut(seed, files, key)"],
+    "duties": ["load_duties(text, number)"],
+    "letters": ["ask_letter(twin, question)", "done_letter(twin, question, moment)",
+                "part_letters(twin, question, moment, files)", "read_letter(letter)"],
+    "answers": ["answer(letter, moment, files)"],
+    "acts": ["backup(house, vault, place, name)", "tend(house, vault, place)"],
+    "events": ["read_event(line)", "event_text(event)"],
+    "calm": ["calm(seed, twins, vaults, effects)", "without(effects, key)", "forgotten(effects, key)"],
+    "scripts": ["run_script(realm, script)", "look(realm)", "same_blocks(first, second)"],
 }
 
 CLASSES = {
@@ -64,6 +74,20 @@ CLASSES = {
                         "image(store)"]),
     "sessions": ("Transaction(seed, image)", ["run(line)", "noted()", "conflicts(store)", "held(key)", "erase(key)",
                                               "images()"]),
+    "hall": ("Hall(seed)", ["run(session, line)", "image()"]),
+    "houses": ("House(seed, places)", ["run(session, line, number)", "supply(writes, torn)", "restart(number)",
+                                       "is_up()", "lasting()", "duties()", "confirmed(place, moment)",
+                                       "remove_duties(place, keys)", "blocks()"]),
+    "post": ("Post()", ["send(letter)", "letters()", "size()", "room()", "deliver(index)", "lose(index)",
+                        "double(index)"]),
+    "twins": ("Twin(name, seed)", ["medium()", "is_down()", "ask(event)", "question()", "waiting()", "take(letter)",
+                                   "files()", "blocks()", "restart()"]),
+    "duties": ("Duties()", ["note(key, place, number)", "remove_noted(place, number)", "remove_keys(place, key_list)",
+                            "keys_of(place)", "places_of(key)", "pairs()", "image()", "clone()"]),
+    "vaults": ("Vault(seed)", ["keep(name, files)", "discard(name)", "cut_keys(keys)", "restart()",
+                               "supply(writes, torn)", "is_up()", "blocks()", "generations()", "files_of(name)"]),
+    "realms": ("Realm(seed, twins, vaults)", ["handle(event)", "settle()", "effects()", "number()", "places()",
+                                              "blocks_of(place)", "is_up(place)", "letters()"]),
 }
 
 

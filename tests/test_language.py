@@ -190,7 +190,7 @@ class TestNames(unittest.TestCase):
             for node in ast.walk(tree):
                 if isinstance(node, ast.ClassDef):
                     methods = {part.name for part in node.body if isinstance(part, ast.FunctionDef)}
-                    self.assertEqual(methods & taken, methods & {"__init__"}, path)
+                    self.assertEqual(methods & taken, methods & {"__init__", "discard"}, path)
                     stored = {part.attr for part in ast.walk(node)
                               if isinstance(part, ast.Attribute) and isinstance(part.ctx, ast.Store)}
                     self.assertEqual(stored & (methods | taken), set(), path)
