@@ -63,6 +63,18 @@ class TestDrive(Case):
             self.assertEqual(drive.files(), SECOND if whole >= n + 1 else FIRST)
             self.assertEqual(drive.restart(), "clean")
 
+    def test_a_restart_that_fails_while_it_is_up(self):
+        drive = Drive(5, 8)
+        drive.replace_files(FIRST)
+        # Somebody else writes into the journal, so that the mount has something to write.
+        drive.medium().write(9, "x" * 64)
+        drive.medium().supply(0, 0)
+        self.assertEqual(drive.restart(), "down")
+        self.assertIs(drive.is_up(), False)
+        drive.medium().supply(-1, 0)
+        self.assertEqual(drive.restart(), "clean")
+        self.assertEqual(drive.files(), FIRST)
+
     def test_shut(self):
         drive = Drive(5, 8)
         drive.replace_files(FIRST)

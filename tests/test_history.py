@@ -17,6 +17,14 @@ class TestHistory(unittest.TestCase):
         history.effects().append("y")
         self.assertEqual(history.effects(), ["a", "b", "c"])
 
+    def test_what_was_lost_at_first(self):
+        for made in [True, False]:
+            history = History()
+            history.lose("home", [])
+            history.note(["b"])
+            history.resolve("home", made, ["a"])
+            self.assertEqual(history.effects(), ["a", "b"] if made else ["b"])
+
     def test_what_was_lost(self):
         for made in [True, False]:
             history = History()

@@ -13,6 +13,7 @@ from tests.plain import Case, plain_rest
 from tests.plain_hall import random_hall_line
 from tests.plain_house import PlainHouse
 from tests.test_snaps import NO_NAMES
+from tests.test_vaults import MOST
 
 CELLS = 192
 PLACES = ["t1", "t2", "v1"]
@@ -112,6 +113,17 @@ class TestHouse(HouseCase):
         self.plain.run("s", "snap y", 91)
         self.check_is()
         self.check_blocks()
+
+    def test_all_files_fit(self):
+        self.begin(["aaa1", "aaa2", "aaa3", "aaa4", "aaa5", "aaa6"])
+        for line in MOST + [f"forget key{k}" for k in range(7)]:
+            self.run_both("s", line)
+        self.check_is()
+        self.check_blocks()
+        files = self.house.lasting()
+        self.assertEqual((len(files), len(self.house.duties())), (7, 36))
+        self.assertEqual((self.plain.hall.run("s", "stats")[0], len(self.plain.hall.edges)),
+                         ("put 8 drop 0 hold 16 free 0", 24))
 
     def test_files_on_the_disk(self):
         self.begin(PLACES)

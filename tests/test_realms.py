@@ -125,6 +125,13 @@ class TestBad(RealmCase):
         # Nobody lost power, and no vault went away.
         self.does(("say", "s", "snap x", "ok"), ("backup", "v1", "g", "ok"), ("deliver", 0, "answered"))
 
+    def test_tuples_of_another_length(self):
+        self.begin(1, 1)
+        for event in [("ask",), ("ask", "t1", "t1"), ("deliver",), ("power", "home", -1), ("say", "s"), ("restart",),
+                      ("backup", "v1"), ("tend", "v1", "g")]:
+            self.assertEqual(self.realm.handle(event), "bad")
+        self.assertEqual((self.realm.number(), self.realm.letters(), self.realm.effects()), (8, [], []))
+
     def test_indexes_below_0_without_letters(self):
         self.begin(1, 1)
         self.does(("deliver", -1, "bad"), ("lose", -1, "bad"), ("double", -1, "bad"), ("deliver", 0, "none"),
@@ -178,6 +185,17 @@ class TestSay(RealmCase):
             self.assertEqual(self.realm.effects(), [("line", line) for line in lines[:3 if answered == "made" else 1]])
         else:
             self.fail("the power never lasted")
+
+    def test_the_first_line_of_all(self):
+        made = {"made": 0, "not made": 0}
+        for writes in range(8):
+            self.begin(1, 1)
+            self.does(("power", "home", writes, 0, "ok"), ("say", "s", "snap x", "lost" if writes < 5 else "ok"),
+                      ("power", "home", -1, 0, "ok"))
+            if writes < 5:
+                made[self.both("restart", "home")] += 1
+            self.assertEqual(self.realm.effects(), [("line", "snap x")] * (writes >= 2))
+        self.assertEqual(made, {"made": 3, "not made": 2})
 
     def test_a_place_that_is_still_down(self):
         self.begin(1, 1)

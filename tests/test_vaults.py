@@ -18,6 +18,12 @@ EMPTY = {"map": "0;"}
 FILES = lasting_files(hall_told(SEED, FILLED))
 OTHERS = lasting_files(hall_told(SEED, ['do put a 1 1 1 "x"', "snap s", 'do put b 1 1 1 "x"', "pin p get a",
                                         "do drop a"]))
+# About as much as a hall can have.
+MOST = ([f'do put {k}zzz 9{k} 9{k} {k % 4} "a b c d e f g {k}"' for k in range(8)]
+        + [f"do hold {k}zzz {h}zzz" for k in range(8) for h in "ab"]
+        + [f"link {a}zzz {kind} {b}zzz" for a in range(3) for kind in range(4) for b in range(2)]
+        + ["snap aaaa", "snap bbbb"]
+        + [f'pin {name} ask "a+b+c+d+e | a+b+c+d | a+b+c+d+f|e*"' for name in ["cccc", "dddd", "eeee"]])
 BAD_NAMES = ["", "abc", "abcd", "A", "a-", "-", "a ", " ", "a/", "Ab", "a.", '"a"']
 
 
@@ -173,12 +179,7 @@ class TestVault(VaultCase):
         self.check_blocks()
 
     def test_all_files_fit(self):
-        lines = [f'do put {k}zzz 9{k} 9{k} {k % 4} "a b c d e f g {k}"' for k in range(8)]
-        lines += [f"do hold {k}zzz {h}zzz" for k in range(8) for h in "ab"]
-        lines += [f"link {a}zzz {kind} {b}zzz" for a in range(3) for kind in range(4) for b in range(2)]
-        lines += ["snap aaaa", "snap bbbb"]
-        lines += [f'pin {n} ask "a+b+c+d+e | a+b+c+d | a+b+c+d+f|e*"' for n in ["cccc", "dddd", "eeee"]]
-        files = lasting_files(hall_told(SEED, lines))
+        files = lasting_files(hall_told(SEED, MOST))
         self.assertEqual(len(files), 7)
         self.begin(aa=files, bb=files)
         self.check_blocks()
